@@ -3,7 +3,7 @@
 from agegrades.joining import is_of_age, is_too_near, may_join
 from agegrades.refusals import ALREADY_SO, DEAD_OR_NEWBORN, NOBODY_MAY, NO_SUCH_MAN
 from agegrades.refusals import OUT_OF_BOUNDS, PEOPLE_FULL, TOO_NEAR
-from agegrades.state import LAST_YEAR, MOST_MEN, Man, as_set_of_men
+from agegrades.state import LAST_YEAR, MOST_MEN, Man, counted_and_together
 
 MOST_BEHIND = 12
 
@@ -35,6 +35,7 @@ def pp_dies(people, given):
 
 def enter_newest(people, man):
     man.age_set = people.newest()
+    man.joined = people.year
 
 
 def pp_join(people, given):
@@ -64,7 +65,7 @@ def pp_join_all(people, given):
             joined.append(number)
     if len(joined) == 0:
         return [NOBODY_MAY]
-    return as_set_of_men(joined)
+    return counted_and_together(joined)
 
 
 def pp_pass(people, given):

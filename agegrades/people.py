@@ -1,13 +1,14 @@
 """The calls on one people, and their answers, each as one list of whole numbers."""
 
-from agegrades.changes import is_change, make_change
+from agegrades.changes import is_change
+from agegrades.history import History, answer_history_call, is_history_call
 from agegrades.questions import answer_question
 from agegrades.refusals import OUT_OF_BOUNDS
 from agegrades.state import People
 
 START = 0
 # How many numbers stand behind each call's own number.
-GIVEN_COUNTS = (5, 1, 1, 1, 0, 1, 1, 1, 1, 1, 1, 0, 0, 0)
+GIVEN_COUNTS = (5, 1, 1, 1, 0, 1, 1, 1, 1, 1, 1, 0, 0, 0, 0, 1, 1, 2, 0, 1, 1, 0, 0, 1, 1, 0, 0, 0)
 
 MOST_YEARS_A_TERM = 20
 LEAST_GRADES = 2
@@ -27,24 +28,26 @@ def can_start(term, grades, names, youngest, oldest):
     return youngest <= oldest <= GREATEST_AGE
 
 
-# The one object that a list of calls speaks to. It has no people until a
-# start is not refused.
+# The one object that a list of calls speaks to. It has no people, and so no
+# history, until a start is not refused.
 class Line:
     def __init__(self):
-        self.people = None
+        self.history = None
 
     def begin(self, given):
         if not can_start(given[0], given[1], given[2], given[3], given[4]):
             return [OUT_OF_BOUNDS]
-        self.people = People(given[0], given[1], given[2], given[3], given[4])
+        self.history = History(People(given[0], given[1], given[2], given[3], given[4]))
         return [0]
 
     def answer(self, number, given):
         if number == START:
             return self.begin(given)
         if is_change(number):
-            return make_change(self.people, number, given)
-        return answer_question(self.people, number, given)
+            return self.history.change(number, given)
+        if is_history_call(number):
+            return answer_history_call(self.history, number)
+        return answer_question(self.history.people, number, given)
 
 
 def answers(calls):

@@ -1,6 +1,7 @@
 """The numbers that refused calls answer."""
 
 NO_SUCH_MAN = -2
+NO_SUCH_CHANGE = -2
 NOBODY_MAY = -6
 TOO_NEAR = -13
 DEAD_OR_NEWBORN = -16

@@ -5,12 +5,13 @@ MOST_MEN = 24
 
 
 class Man:
-    # father and age_set are None as long as there is none that is told.
+    # father, age_set and joined are None as long as there is none that is told.
     def __init__(self, born, father):
         self.born = born
         self.father = father
         self.lives = True
         self.age_set = None
+        self.joined = None
 
 
 class People:
@@ -25,8 +26,11 @@ class People:
         self.behind = 1
         self.office = 0
 
+    def newest_in(self, year):
+        return year // self.term
+
     def newest(self):
-        return self.year // self.term
+        return self.newest_in(self.year)
 
     def years_left(self):
         return self.term - self.year % self.term
@@ -40,6 +44,9 @@ class People:
     def has_grade(self, grade):
         return grade < self.grades
 
+    def has_name(self, name):
+        return name < self.names
+
     # In the first terms the upper grades have no set yet: None.
     def set_in(self, grade):
         age_set = self.newest() - grade
@@ -48,6 +55,9 @@ class People:
     def grade_of(self, age_set):
         return self.newest() - age_set
 
+    def has_retired(self, age_set):
+        return not self.has_grade(self.grade_of(age_set))
+
     def age_of(self, man):
         return self.year - man.born
 
@@ -55,12 +65,30 @@ class People:
         return [number for number, man in enumerate(self.men) if man.lives and man.age_set == age_set]
 
 
-# The powers of 2 are doubled up one by one, so that no exponent is reckoned.
-def as_set_of_men(numbers):
+def copied_man(man):
+    twin = Man(man.born, man.father)
+    twin.lives = man.lives
+    twin.age_set = man.age_set
+    twin.joined = man.joined
+    return twin
+
+
+def copied_people(people):
+    twin = People(people.term, people.grades, people.names, people.youngest, people.oldest)
+    twin.year = people.year
+    twin.men = [copied_man(man) for man in people.men]
+    twin.behind = people.behind
+    twin.office = people.office
+    return twin
+
+
+# How men are told, and grades: how many they are, and 2 to the power of each
+# one's number, together. The powers are doubled up, so that no exponent is reckoned.
+def counted_and_together(numbers):
     together = 0
-    power = 1
-    for number in range(MOST_MEN):
-        if number in numbers:
-            together += power
-        power += power
+    for number in numbers:
+        power = 1
+        for doubling in range(number):
+            power += power
+        together += power
     return [len(numbers), together]

@@ -1,4 +1,6 @@
-"""Writes calls by name, and splits what is answered call by call."""
+"""Writes calls by name, draws lists of them, and splits what is answered call by call."""
+
+import random
 
 from agegrades.people import answers
 
@@ -61,6 +63,62 @@ def may():
     return [13]
 
 
+def missed():
+    return [14]
+
+
+def when(i):
+    return [15, i]
+
+
+def age(i):
+    return [16, i]
+
+
+def senior(i, j):
+    return [17, i, j]
+
+
+def turned():
+    return [18]
+
+
+def sons(i):
+    return [19, i]
+
+
+def line(i):
+    return [20, i]
+
+
+def retired():
+    return [21]
+
+
+def next_set():
+    return [22]
+
+
+def named(k):
+    return [23, k]
+
+
+def told_of(i):
+    return [24, i]
+
+
+def back():
+    return [25]
+
+
+def again():
+    return [26]
+
+
+def state():
+    return [27]
+
+
 def wait(calls, years):
     """The calls, and so many years behind them; 0 years would be refused."""
     return calls + [pass_years(years)] if years > 0 else calls
@@ -94,17 +152,35 @@ def last(*calls):
     return all_told(*calls)[-1]
 
 
-def probe(men, grades):
-    """Calls that bring to light all that the calls so far can show.
+def told_behind(calls, *more):
+    """What the further calls answer behind these."""
+    return all_told(*calls, *more)[len(calls):]
 
-    The refused ones (a number that already holds) and the questions come
-    first; deaths, years and offices behind them tell ages, year and numbers.
-    """
-    calls = [may(), ruler(), speaker()]
-    calls += [grade(i) for i in range(men + 1)]
+
+def members(told):
+    """The numbers that are told as a set of men (or of grades)."""
+    found = [i for i in range(32) if told[1] >> i & 1]
+    if told != [len(found), sum(2 ** i for i in found)]:
+        raise AssertionError(f"not as a set of men: {told}")
+    return found
+
+
+def tell_all(men, grades, names):
+    """Every question but pp_state, each with every number that it takes and one beyond."""
+    calls = [may(), missed(), turned(), retired(), next_set(), ruler(), speaker()]
+    for i in range(men + 1):
+        calls += [grade(i), when(i), age(i), sons(i), line(i), told_of(i), senior(i, (i + 1) % (men + 1))]
     for g in range(grades + 1):
         calls += [set_in(g), strength(g)]
-    calls += [join_all(), join_all()]
+    return calls + [named(k) for k in range(names + 1)]
+
+
+def probe(men, grades, names=16):
+    """Calls that bring to light all there is, but for what was before.
+
+    The questions come first; behind them changes, whose answers tell of it too.
+    """
+    calls = tell_all(men, grades, names) + [join_all(), join_all()]
     calls += [grade(i) for i in range(men + 1)]
     for g in range(grades):
         calls += [office(g), ruler(), speaker()]
@@ -112,4 +188,40 @@ def probe(men, grades):
     calls += [born(i) for i in range(men)]
     calls += [born(), pass_years(1)]
     calls += [dies(i) for i in range(men + 2)]
+    return calls
+
+
+CHANGES = [1, 1, 2, 3, 3, 3, 4, 5, 5, 6, 7]
+FIRST_HALF = CHANGES + [8, 9, 10, 11, 12, 13]
+EVERY_CALL_BUT_START = CHANGES * 4 + [25, 25, 26, 26, 27, 27] + list(range(8, 25))
+
+
+def drawn_start(draw):
+    l = draw.randint(0, draw.choice([1, 8, 25]))
+    return [0, draw.randint(1, 20), draw.randint(2, 8), draw.randint(2, 16), l, draw.randint(l, 60)]
+
+
+def drawn_calls(seed, numbers=FIRST_HALF, turns=300):
+    """A list drawn from a fixed seed: a start, and so many turns of the calls with these numbers."""
+    draw = random.Random(seed)
+    calls = [drawn_start(draw)]
+    longest = draw.choice([2, 6, 20])
+    steps = draw.choice([[1], [1, 1, 2, 6], [1, 1, 5, 22]])
+    for turn in range(turns):
+        number = draw.choice(numbers)
+        if number in (25, 26):
+            calls += [[number]] * draw.choice(steps)
+        elif number in (4, 11, 12, 13, 14, 18, 21, 22, 27):
+            calls.append([number])
+        elif number == 0:
+            calls.append(drawn_start(draw) if draw.random() < 0.4 else start(t=draw.choice([0, 21, BIG])))
+        elif number == 5:
+            calls.append([5, draw.randint(0, longest)])
+        elif number in (6, 7, 9, 10):
+            calls.append([number, draw.randint(0, 8)])
+        elif number == 23:
+            calls.append([number, draw.randint(0, 16)])
+        elif number != 2 or draw.random() < 0.3:
+            most = min(24, 2 + turn // 8)
+            calls.append([number] + [draw.randint(0, most) for given in range(2 if number == 17 else 1)])
     return calls

@@ -1,38 +1,16 @@
-"""What holds, looked at on many long lists of calls.
+"""Every answer on many long lists of calls, against a reckoning of its own.
 
 The lists are drawn from fixed seeds. What the calls did is kept here by what
 they answered alone, and each answer is looked at against all that was before.
 """
 
-import random
+import copy
 import unittest
 
 from agegrades.people import answers
-from tests.helper import flat, split
+from tests.helper import BIG, EVERY_CALL_BUT_START, FIRST_HALF, drawn_calls, flat, members, split
 
 SEEDS = 150
-
-
-def drawn_start(draw):
-    l = draw.randint(0, 25)
-    return [0, draw.randint(1, 20), draw.randint(2, 8), draw.randint(2, 16), l, draw.randint(l, 60)]
-
-
-def drawn_calls(seed):
-    draw = random.Random(seed)
-    calls = [drawn_start(draw)]
-    longest = draw.choice([2, 6, 20])
-    for turn in range(300):
-        number = draw.choice([1, 1, 2, 3, 3, 3, 4, 5, 5, 6, 7, 8, 9, 10, 11, 12, 13])
-        if number in (4, 11, 12, 13):
-            calls.append([number])
-        elif number == 5:
-            calls.append([5, draw.randint(0, longest)])
-        elif number in (6, 7, 9, 10):
-            calls.append([number, draw.randint(0, 8)])
-        elif number != 2 or draw.random() < 0.3:
-            calls.append([number, draw.randint(0, min(24, 2 + turn // 8))])
-    return calls
 
 
 class Seen:
@@ -48,9 +26,19 @@ class Seen:
         self.dead = set()
         self.sets = {}
         self.joined = {}
+        self.past = []
+        self.undone = []
+
+    def twin(self):
+        other = Seen([0, self.t, self.g, self.n, self.l, self.h])
+        for name in ("year", "k", "rules"):
+            setattr(other, name, getattr(self, name))
+        for name in ("born", "father", "dead", "sets", "joined", "past", "undone"):
+            setattr(other, name, copy.copy(getattr(self, name)))
+        return other
 
     def newest(self):
-        return len([y for y in range(1, self.year + 1) if y % self.t == 0])
+        return len(range(self.t, self.year + 1, self.t))
 
     def joins(self, i):
         self.sets[i] = self.newest()
@@ -67,6 +55,16 @@ class Seen:
             return False
         return self.year - self.born[i] in range(self.l, self.h + 1) and not self.near(i)
 
+    def years(self, i):
+        """The years in which he may join, from this one on, gone through one by one."""
+        then = self.twin()
+        found = []
+        while then.year <= 400:
+            if then.may(i):
+                found.append(then.year)
+            then.year += 1
+        return found
+
     def in_grade(self, grade):
         return [s for s in range(self.newest() + 1) if self.newest() - s == grade]
 
@@ -74,15 +72,37 @@ class Seen:
         return sorted(i for i in self.sets if self.sets[i] == age_set and i not in self.dead)
 
 
-def members(told):
-    found = [i for i in range(32) if told[1] >> i & 1]
-    assert told[0] == len(found)
-    return found
+def can_start(t, g, n, l, h):
+    return t in range(1, 21) and g in range(2, 9) and n in range(2, 17) and l <= h and h in range(61)
 
 
-class Holds(unittest.TestCase):
+class Followed(unittest.TestCase):
     def follow(self, seen, call, told):
+        """What is seen behind the call; with pp_back and pp_again that is another."""
+        if call[0] == 0:
+            self.assertEqual(told, [0] if can_start(*call[1:]) else [-22])
+            return Seen(call) if can_start(*call[1:]) else seen
+        if call[0] in (25, 26):
+            return self.see_step(seen, call[0], told)
+        before = seen.twin() if call[0] < 8 else None
         getattr(self, "see_" + str(call[0]))(seen, *call[1:], told)
+        if call[0] < 8 and told[0] >= 0:
+            seen.past = (before.past + [before])[-20:]
+            seen.undone = []
+        return seen
+
+    def see_step(self, seen, number, told):
+        source = seen.past if number == 25 else seen.undone
+        if not source:
+            self.assertEqual(told, [-2])
+            return seen
+        self.assertEqual(told, [len(source) - 1])
+        other = source[-1].twin()
+        if number == 25:
+            other.past, other.undone = seen.past[:-1], seen.undone + [seen]
+        else:
+            other.past, other.undone = seen.past + [seen], seen.undone[:-1]
+        return other
 
     def see_1(self, seen, p, told):
         if p > len(seen.born):
@@ -206,34 +226,139 @@ class Holds(unittest.TestCase):
     def see_13(self, seen, told):
         self.assertEqual(members(told), [i for i in range(len(seen.born)) if seen.may(i)])
 
-    def check_sets(self, seen):
-        for i in seen.sets:
-            if seen.father[i] in seen.sets:
-                self.assertLess(seen.sets[seen.father[i]], seen.sets[i])
-            self.assertEqual(seen.joined[i] // seen.t, seen.sets[i])
-            self.assertIn(seen.joined[i] - seen.born[i], range(seen.l, seen.h + 1))
-            for j in seen.sets:
-                if seen.born[j] < seen.born[i] and seen.sets[i] < seen.sets[j]:
-                    self.assertLessEqual(seen.born[i] - seen.born[j], seen.h - seen.l)
+    def see_14(self, seen, told):
+        outside = [i for i in range(len(seen.born)) if i not in seen.dead and i not in seen.sets]
+        self.assertEqual(members(told), [i for i in outside if not seen.years(i)])
 
-    def test_on_drawn_lists(self):
+    def see_15(self, seen, i, told):
+        if i >= len(seen.born):
+            self.assertEqual(told, [-2])
+        elif not seen.years(i):
+            self.assertEqual(told, [-33])
+        else:
+            first = seen.years(i)[0]
+            self.assertEqual(told, [first, len(range(seen.t, first + 1, seen.t))])
+
+    def see_16(self, seen, i, told):
+        if i >= len(seen.born):
+            self.assertEqual(told, [-2])
+        else:
+            self.assertEqual(told, [seen.year - seen.born[i], 0 if i in seen.dead else 1])
+
+    def see_17(self, seen, i, j, told):
+        if i >= len(seen.born) or j >= len(seen.born):
+            self.assertEqual(told, [-2])
+        elif i not in seen.sets or j not in seen.sets:
+            self.assertEqual(told, [-33])
+        elif seen.sets[i] == seen.sets[j]:
+            self.assertEqual(told, [0])
+        else:
+            self.assertEqual(told, [1] if seen.sets[i] < seen.sets[j] else [2])
+
+    def see_18(self, seen, told):
+        twos = [(i, j) for i in seen.sets for j in seen.sets
+                if seen.born[i] > seen.born[j] and seen.sets[i] < seen.sets[j]]
+        self.assertEqual(told, [len(twos)])
+
+    def see_19(self, seen, i, told):
+        if i >= len(seen.born):
+            self.assertEqual(told, [-2])
+        else:
+            self.assertEqual(members(told), [j for j in range(len(seen.born)) if seen.father[j] == i])
+
+    def see_20(self, seen, i, told):
+        if i >= len(seen.born):
+            self.assertEqual(told, [-2])
+            return
+        fathers = []
+        while seen.father[i] is not None:
+            i = seen.father[i]
+            fathers.append(i)
+        self.assertEqual(members(told), sorted(fathers))
+
+    def see_21(self, seen, told):
+        graded = [s for g in range(seen.g) for s in seen.in_grade(g)]
+        self.assertEqual(members(told), [i for i in sorted(seen.sets)
+                                         if i not in seen.dead and seen.sets[i] not in graded])
+
+    def see_22(self, seen, told):
+        coming = seen.newest() + 1
+        self.assertEqual(told, [coming * seen.t - seen.year, coming, coming % seen.n])
+
+    def see_23(self, seen, k, told):
+        if k >= seen.n:
+            self.assertEqual(told, [-22])
+        else:
+            named = [g for g in range(seen.g) for s in seen.in_grade(g) if s % seen.n == k]
+            self.assertEqual(members(told), named)
+
+    def see_24(self, seen, i, told):
+        if i >= len(seen.born):
+            self.assertEqual(told, [-2])
+        else:
+            father = 0 if seen.father[i] is None else seen.father[i] + 1
+            age_set = seen.sets[i] + 1 if i in seen.sets else 0
+            self.assertEqual(told, [seen.born[i], father, age_set, seen.joined.get(i, 0)])
+
+    def see_27(self, seen, told):
+        self.assertEqual(told, [seen.year, len(seen.born), seen.k, seen.rules, len(seen.past), len(seen.undone)])
+
+    def follow_all(self, seed, calls):
+        """Which calls were met, with 0 or which refusal, and of pp_state how long a past and what was taken back."""
+        met = set()
+        seen = None
+        for call, answer in zip(calls, split(answers(flat(calls)), len(calls))):
+            with self.subTest(seed=seed, call=call):
+                seen = self.follow(seen, call, answer)
+            met.add((call[0], min(answer[0], 0)) if call[0] != 27 else (27, answer[4], answer[5]))
+        return met
+
+
+FIRST_ANSWERS = {
+    1: [0, -2, -16, -28], 2: [0, -2, -17], 3: [0, -2, -16, -17, -22, -13], 4: [0, -6], 5: [0, -22],
+    6: [0, -22, -17], 7: [0, -22, -17], 8: [0, -2, -33], 9: [0, -22, -33], 10: [0, -22, -33], 11: [0, -33],
+    12: [0, -33], 13: [0],
+}
+SECOND_ANSWERS = {
+    0: [0, -22], 14: [0], 15: [0, -2, -33], 16: [0, -2], 17: [0, -2, -33], 18: [0], 19: [0, -2], 20: [0, -2],
+    21: [0], 22: [0], 23: [0, -22], 24: [0, -2], 25: [0, -2], 26: [0, -2],
+}
+
+
+def pairs(expected):
+    return {(number, first) for number in expected for first in expected[number]}
+
+
+# The lists would be worth little if they didn't come upon each answer.
+class OnDrawnLists(Followed):
+    def test_the_first_half(self):
         met = set()
         for seed in range(SEEDS):
-            calls = drawn_calls(seed)
-            told = split(answers(flat(calls)), len(calls))
-            self.assertEqual(told[0], [0])
-            seen = Seen(calls[0])
-            for call, answer in zip(calls[1:], told[1:]):
-                with self.subTest(seed=seed, call=call):
-                    self.follow(seen, call, answer)
-                met.add((call[0], min(answer[0], 0)))
-            self.check_sets(seen)
-        # The lists would be worth little if they didn't come upon each answer.
-        for pair in [(1, 0), (1, -2), (1, -16), (1, -28), (2, 0), (2, -2), (2, -17), (3, 0), (3, -2), (3, -16),
-                     (3, -17), (3, -22), (3, -13), (4, 0), (4, -6), (5, 0), (5, -22), (6, 0), (6, -22), (6, -17),
-                     (7, 0), (7, -22), (7, -17), (8, 0), (8, -2), (8, -33), (9, 0), (9, -22), (9, -33),
-                     (10, 0), (10, -22), (10, -33), (11, 0), (11, -33), (12, 0), (12, -33), (13, 0)]:
-            self.assertIn(pair, met)
+            met |= self.follow_all(seed, drawn_calls(seed, FIRST_HALF))
+        self.assertEqual(met, pairs(FIRST_ANSWERS) | {(0, 0)})
+
+    def test_every_call(self):
+        met = set()
+        for seed in range(SEEDS):
+            met |= self.follow_all(seed, drawn_calls(seed, EVERY_CALL_BUT_START * 4 + [0], 350))
+        states = {pair for pair in met if pair[0] == 27}
+        self.assertEqual(met - states, pairs(FIRST_ANSWERS) | pairs(SECOND_ANSWERS))
+        for past, undone in [(0, 0), (1, 1), (5, 0), (0, 5), (20, 0), (19, 1), (0, 20)]:
+            self.assertIn((27, past, undone), states)
+
+    def test_1000_calls(self):
+        for seed in range(5):
+            calls = drawn_calls(seed, EVERY_CALL_BUT_START, 1100)[:1000]
+            self.assertEqual(len(calls), 1000)
+            self.follow_all(seed, calls)
+
+    def test_with_greatest_numbers(self):
+        for seed in range(20):
+            calls = drawn_calls(seed, EVERY_CALL_BUT_START, 100)
+            for at in range(1, len(calls)):
+                if (at + seed) % 7 == 0:
+                    calls[at] = calls[at][:1] + [BIG] * (len(calls[at]) - 1)
+            self.follow_all(seed, calls)
 
 
 if __name__ == "__main__":

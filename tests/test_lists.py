@@ -3,18 +3,25 @@
 import unittest
 
 from agegrades.people import answers
-from tests.helper import (BIG, all_told, behind, born, dies, flat, grade, join, join_all, may, office,
-                          pass_years, probe, ruler, set_in, speaker, start, strength)
+from tests.helper import (BIG, again, age, all_told, back, behind, born, dies, flat, grade, join, join_all, line,
+                          may, missed, named, next_set, office, pass_years, probe, retired, ruler, senior, set_in,
+                          sons, speaker, start, state, strength, told_of, turned, when)
 
 EVERY_CALL = [start(n=2), born(), dies(0), born(), pass_years(12), join(1), join_all(), behind(2), office(1),
-              grade(1), set_in(0), strength(0), ruler(), speaker(), may()]
+              grade(1), set_in(0), strength(0), ruler(), speaker(), may(), missed(), when(1), age(0), senior(1, 1),
+              turned(), sons(1), line(1), retired(), next_set(), named(0), told_of(1), back(), again(), state()]
 
 
 class Lists(unittest.TestCase):
     def test_counts_and_numbers(self):
         self.assertEqual(answers(flat(EVERY_CALL)), [
             1, 0, 1, 0, 1, 0, 1, 1, 2, 12, 2, 2, 2, 0, 1, -6, 1, 1, 1, 0,
-            3, 0, 2, 0, 2, 2, 0, 2, 1, 2, 4, 1, 1, 0, 3, 1, -33, 2, 0, 0])
+            3, 0, 2, 0, 2, 2, 0, 2, 1, 2, 4, 1, 1, 0, 3, 1, -33, 2, 0, 0,
+            2, 0, 0, 1, -33, 2, 12, 0, 1, 0, 1, 0, 2, 0, 0, 2, 0, 0, 2, 0, 0, 3, 3, 3, 1, 2, 2, 5, 4, 0, 0, 3, 12,
+            1, 6, 1, 0, 6, 12, 2, 2, 1, 7, 0])
+
+    def test_each_number_is_there_once(self):
+        self.assertEqual(sorted({call[0] for call in EVERY_CALL}), list(range(28)))
 
     def test_the_example_of_the_readme(self):
         self.assertEqual(answers([0, 5, 4, 3, 10, 20, 1, 0, 5, 12, 3, 0, 12]),
@@ -40,7 +47,7 @@ class Lists(unittest.TestCase):
     def test_a_second_time_the_same(self):
         calls = flat(EVERY_CALL)
         first = answers(calls)
-        other = answers(flat([start(l=0), born(), join(0), office(3), behind(12), pass_years(400)]))
+        other = answers(flat([start(l=0), born(), join(0), office(3), behind(12), pass_years(400), back(), back()]))
         self.assertEqual(answers(calls), first)
         first.append(5)
         other.append(5)
@@ -52,6 +59,20 @@ class Lists(unittest.TestCase):
         self.assertEqual(told[401:], [[0, 0]] * 599)
         self.assertEqual(all_told(*[start()] * 1000), [[0]] * 1000)
         self.assertEqual(all_told(*[start(t=0)] * 1000), [[-22]] * 1000)
+
+    def test_1000_calls_of_each_question(self):
+        family = [start(t=1, l=0, h=60), born()]
+        for father in range(23):
+            family += [pass_years(1), born(father)]
+        for ask in (missed(), when(23), turned(), line(23), sons(0), retired(), named(0), told_of(5), state(), may()):
+            told = all_told(*family, *[ask] * (1000 - len(family)))
+            self.assertEqual(told[len(family):], [told[-1]] * (1000 - len(family)))
+
+    def test_1000_calls_of_changes(self):
+        told = all_told(start(), *[office(1), office(0)] * 499, state())
+        self.assertEqual(told[-1], [0, 0, 1, 0, 20, 0])
+        told = all_told(start(), born(), *[back(), again()] * 499)
+        self.assertEqual(told, [[0]] * 1000)
 
     def test_one_call(self):
         self.assertEqual(answers(start()), [1, 0])
@@ -72,13 +93,16 @@ class AfterARefusal(unittest.TestCase):
         (office(4), -22), (office(BIG), -22), (office(1), -17),
         (grade(5), -2), (grade(3), -33),
         (set_in(4), -22), (set_in(3), -33), (strength(4), -22), (strength(3), -33),
+        (when(5), -2), (when(0), -33), (when(1), -33), (when(2), -33), (age(5), -2), (age(BIG), -2),
+        (senior(5, 0), -2), (senior(0, BIG), -2), (senior(0, 3), -33), (sons(5), -2), (line(5), -2),
+        (named(3), -22), (named(BIG), -22), (told_of(5), -2), (again(), -2),
         (start(t=21), -22),
     ]
 
     def test_all_is_as_it_was(self):
         # With 1 set behind man 3 may join, with 9 more years none may: both sides are looked at.
         for between in ([], [behind(1)], [pass_years(9)]):
-            after = between + probe(5, 4)
+            after = [state()] + between + probe(5, 4) + [state()]
             plain = all_told(*self.BEFORE, *after)
             for call, number in self.REFUSED:
                 told = all_told(*self.BEFORE, call, *after)
@@ -101,9 +125,10 @@ class AfterARefusal(unittest.TestCase):
 class Questions(unittest.TestCase):
     def test_they_change_nothing(self):
         before = [start(t=5, l=0, h=30), born(), born(), join(0), pass_years(5), born(0), office(1)]
-        after = probe(3, 4)
+        after = [state()] + probe(3, 4) + [state()]
         plain = all_told(*before, *after)
-        for call in (grade(0), set_in(1), strength(1), ruler(), speaker(), may()):
+        for call in (grade(0), set_in(1), strength(1), ruler(), speaker(), may(), missed(), when(2), age(0),
+                     senior(0, 0), turned(), sons(0), line(2), retired(), next_set(), named(0), told_of(0), state()):
             told = all_told(*before, call, *after)
             self.assertGreaterEqual(told[len(before)][0], 0)
             self.assertEqual(told[len(before) + 1:], plain[len(before):], call)

@@ -3,7 +3,7 @@
 import unittest
 
 from tests.helper import (BIG, all_told, behind, born, grade, join, last, may, office,
-                          pass_years, probe, ruler, set_in, start)
+                          pass_years, probe, ruler, set_in, start, state)
 
 
 class TakenAndRefused(unittest.TestCase):
@@ -39,8 +39,9 @@ class TakenAndRefused(unittest.TestCase):
 class Beginning(unittest.TestCase):
     def test_at_first(self):
         told = all_told(start(), may(), ruler(), set_in(0), set_in(1), grade(0),
-                        behind(1), office(0), pass_years(400))
-        self.assertEqual(told, [[0], [0, 0], [0, 0, 0, 5], [0, 0], [-33], [-2], [-17], [-17], [400, 80]])
+                        behind(1), office(0), state(), pass_years(400))
+        self.assertEqual(told, [[0], [0, 0], [0, 0, 0, 5], [0, 0], [-33], [-2], [-17], [-17], [0, 0, 1, 0, 0, 0],
+                                [400, 80]])
 
     def test_refused_ones_ahead_of_the_first(self):
         told = all_told(start(t=0), start(h=61), start(), born())
@@ -48,7 +49,7 @@ class Beginning(unittest.TestCase):
 
     def test_a_refused_one_leaves_all_as_it_was(self):
         before = [start(), born(), pass_years(12), join(0), born(0), behind(3), office(2)]
-        after = probe(2, 4)
+        after = [state()] + probe(2, 4)
         plain = all_told(*before, *after)
         for refused in [start(t=0), start(g=9), start(n=1), start(l=21), start(h=61)]:
             told = all_told(*before, refused, *after)
@@ -58,7 +59,7 @@ class Beginning(unittest.TestCase):
     def test_a_taken_one_begins_anew(self):
         before = [start(3, 8, 16, 0, 60), born(), join(0), pass_years(50), born(0), behind(3), office(2)]
         for numbers in [(5, 4, 3, 10, 20), (3, 8, 16, 0, 60)]:
-            after = [start(*numbers)] + probe(1, 4)
+            after = [start(*numbers), state()] + probe(1, 4)
             told = all_told(*before, *after)
             self.assertEqual(told[len(before):], all_told(*after))
 
